@@ -1,0 +1,1 @@
+"""Keptfiles: a store of files on many machines that loses nothing."""
