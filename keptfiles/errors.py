@@ -2,6 +2,9 @@
 
 SERVERS = (1, 3, 5, 7)
 GREATEST_PRIME = 1000000
+LETTERS = "abcdefghijklmnopqrstuvwxyz"
+DIGITS = "0123456789"
+LONGEST_NAME = 12
 
 
 class StoreError(ValueError):
@@ -132,6 +135,18 @@ def is_from(value, least):
 def is_within(value, least, most):
     """Whether a value is an integer from least to most."""
     return is_from(value, least) and value <= most
+
+
+def is_name(value):
+    """Whether a value is a NAME."""
+    if not isinstance(value, str) or value == "" or len(value) > LONGEST_NAME:
+        return False
+    return value[0] in LETTERS and all([sign in LETTERS or sign in DIGITS for sign in value])
+
+
+def is_most(many, servers):
+    """Whether so many are more than half of so many book servers."""
+    return many > servers // 2
 
 
 def is_prime(number):

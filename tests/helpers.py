@@ -1,7 +1,7 @@
 """What several tests use."""
 
 from keptfiles.disk import Disk
-from keptfiles.errors import BadNumber
+from keptfiles.errors import BadNumber, Fallen
 
 # None of these is an integer as the document understands the word.
 NO_INTEGERS = (None, True, False, "", "1", (), (1,), [], {}, 1.0, b"1")
@@ -48,3 +48,22 @@ def copy_of(disk):
 def lots(many):
     """All lots of so many waiting writes."""
     return [tuple(place for place in range(many) if bits >> place & 1) for bits in range(2 ** many)]
+
+
+def steps_of(disk, call):
+    """How many steps a call needs, counted on a copy that falls behind ever more of them."""
+    steps = 0
+    while True:
+        other = copy_of(disk)
+        other.set_fuse(steps)
+        try:
+            call(other)
+            return steps
+        except Fallen as error:
+            assert error.steps == steps
+        steps += 1
+
+
+def state_tuple(state):
+    """All attributes of a State."""
+    return state.need, state.tree, state.used, state.barred, state.lives, state.many, state.last

@@ -4,15 +4,27 @@ import importlib
 import inspect
 import unittest
 
+from keptfiles.agree import Agree, Walker
 from keptfiles.disk import Disk
 from keptfiles.errors import Settings
 from keptfiles.keeper import Keeper
+from keptfiles.machine import start_state
+from keptfiles.synod import BookServer
 
 FUNCTIONS = {
     "errors": {"server_names": ("settings",), "shelf_names": ("settings",)},
     "disk": {},
     "keeper": {"record_of": ("key", "value", "generation", "index", "run", "width"), "log_of": ("blocks",),
                "map_of": ("entries",), "kept": ("blocks",), "cell_at": ("blocks", "key", "place")},
+    "synod": {"fold_of": ("blocks",), "votes_of": ("blocks",), "chosen": ("rows",), "book": ("rows",)},
+    "agree": {},
+    "machine": {"start_state": ("settings",), "step": ("state", "command"), "standing": ("state",),
+                "rows_of": ("state", "path"), "life_in": ("state", "shelf"), "state_data": ("state",),
+                "state_from": ("settings", "data"), "state_behind": ("settings", "commands"),
+                "answers_of": ("settings", "commands")},
+    "code": {"piece_of": ("letters", "number", "settings"), "pieces_of": ("letters", "settings"),
+             "letters_of": ("pieces", "count", "settings"), "letters_among": ("pieces", "count", "settings"),
+             "agree_on": ("pieces", "count", "settings")},
 }
 CLASSES = {
     "errors": {
@@ -30,6 +42,12 @@ CLASSES = {
     "keeper": {
         "Keeper": {"__init__": ("disk", "width"), "get": ("key",), "pairs": (), "weight": (),
                    "put": ("key", "value"), "drop": ("key",), "flush": ()}},
+    "synod": {"BookServer": {"__init__": ("name", "disk", "width"), "hear": ("letter",)}},
+    "agree": {
+        "Agree": {"__init__": ("hand", "servers", "slot", "command"), "begin": ("number",), "hear": ("letter",),
+                  "nudge": ()},
+        "Walker": {"__init__": ("hand", "settings"), "submit": ("word", "body"), "hear": ("letter",), "nudge": ()}},
+    "machine": {"State": {"__init__": ("need", "tree", "used", "barred", "lives", "many", "last")}},
 }
 
 
@@ -58,9 +76,13 @@ class Interface(unittest.TestCase):
 
     def test_attributes_are_set_on_each_object(self):
         disk = Disk(3)
-        told = ((Settings(1, 1, 1, 0, 0, 2, 9, 1),
-                 ("servers", "shelves", "k", "e", "f", "prime", "size", "width", "need")),
-                (disk, ("size", "blocks", "waiting")), (Keeper(disk, 1), ("disk", "width")))
+        settings = Settings(1, 1, 1, 0, 0, 2, 9, 1)
+        told = ((settings, ("servers", "shelves", "k", "e", "f", "prime", "size", "width", "need")),
+                (disk, ("size", "blocks", "waiting")), (Keeper(disk, 1), ("disk", "width")),
+                (BookServer("b1", disk, 1), ("name", "disk", "keeper")),
+                (Agree("ann", ("b1",), 0, "x"), ("slot", "ballot", "found")),
+                (Walker("ann", settings), ("owner", "start", "rows", "state", "told")),
+                (start_state(settings), ("need", "tree", "used", "barred", "lives", "many", "last")))
         for thing, names in told:
             for name in names:
                 self.assertIn(name, vars(thing))

@@ -5,23 +5,9 @@ import unittest
 from keptfiles.disk import Disk
 from keptfiles.errors import Fallen, Full
 from keptfiles.keeper import Keeper, kept, record_of
-from tests.helpers import NO_INTEGERS, check_bad_number, check_error, copy_of, disk_with, same
+from tests.helpers import NO_INTEGERS, check_bad_number, check_error, copy_of, disk_with, same, steps_of
 
 J, K, L, M = ("j",), ("k",), ("l", 1), ("m", ("x", 2))
-
-
-def steps_of(disk, call):
-    """How many steps a call needs, counted on a copy that falls behind ever more of them."""
-    steps = 0
-    while True:
-        other = copy_of(disk)
-        other.set_fuse(steps)
-        try:
-            call(other)
-            return steps
-        except Fallen as error:
-            assert error.steps == steps
-        steps += 1
 
 
 class Beginning(unittest.TestCase):
