@@ -3,16 +3,21 @@
 from keptfiles.errors import BadNumber, Fallen, is_from, is_within
 
 
-def is_lot(lot, many):
-    """Whether lot is a list of ascending places of so many waiting writes."""
+def is_ascending(lot):
+    """Whether lot is a list of ascending numbers, each once."""
     if not isinstance(lot, (list, tuple)):
         return False
     least = 0
     for place in lot:
-        if not is_within(place, least, many - 1):
+        if not is_from(place, least):
             return False
         least = place + 1
     return True
+
+
+def is_lot(lot, many):
+    """Whether lot is a list of ascending places of so many waiting writes."""
+    return is_ascending(lot) and (len(lot) == 0 or lot[-1] < many)
 
 
 class Disk:

@@ -3,7 +3,6 @@
 SERVERS = (1, 3, 5, 7)
 GREATEST_PRIME = 1000000
 LETTERS = "abcdefghijklmnopqrstuvwxyz"
-DIGITS = "0123456789"
 LONGEST_NAME = 12
 
 
@@ -132,6 +131,12 @@ def is_from(value, least):
     return is_int(value) and value >= least
 
 
+def are_from(values, least):
+    """Whether all values are integers from least on."""
+    # Written out, for histories have very many letters that are looked at again and again.
+    return all([isinstance(value, int) and not isinstance(value, bool) and value >= least for value in values])
+
+
 def is_within(value, least, most):
     """Whether a value is an integer from least to most."""
     return is_from(value, least) and value <= most
@@ -141,7 +146,7 @@ def is_name(value):
     """Whether a value is a NAME."""
     if not isinstance(value, str) or value == "" or len(value) > LONGEST_NAME:
         return False
-    return value[0] in LETTERS and all([sign in LETTERS or sign in DIGITS for sign in value])
+    return value[0] in LETTERS and value.isascii() and value.isalnum() and value.islower()
 
 
 def is_most(many, servers):

@@ -66,19 +66,26 @@ def is_there(row, index, generation, least, most):
     return all([goes_on(row, head, index + at, left - at) for at in range(1, left + 1)])
 
 
-def spans_of(blocks):
-    """The pairs (index, number of blocks) of all records that are there, in order."""
-    if blocks[0] is None:
-        return []
-    generation, _, run, least = blocks[0]
+def spans_from(blocks, index, least):
+    """The pairs (index, number of blocks) of the records from this index on; the root is not empty.
+
+    least is the run of the record ahead of them, or the base.
+    """
+    generation, _, most, _ = blocks[0]
     row = row_of(blocks)
     spans = []
-    index = 0
-    while is_there(row, index, generation, least, run):
+    while is_there(row, index, generation, least, most):
         _, _, least, left, _, _ = row[index]
         spans.append((index, left + 1))
         index += left + 1
     return spans
+
+
+def spans_of(blocks):
+    """The pairs (index, number of blocks) of all records that are there, in order."""
+    if blocks[0] is None:
+        return []
+    return spans_from(blocks, 0, blocks[0][3])
 
 
 def entry_of(record):
@@ -102,14 +109,19 @@ def log_of(blocks):
     return tuple(entries), sum([many for _, many in spans])
 
 
-def map_of(entries):
-    """The map that entries lead to, keys in the order in which they were put first."""
-    pairs = {}
+def change(pairs, entries):
+    """Entries change a map, one after the other."""
     for key, value in entries:
         if value is not None:
             pairs[key] = value
         elif key in pairs:
             del pairs[key]
+
+
+def map_of(entries):
+    """The map that entries lead to, keys in the order in which they were put first."""
+    pairs = {}
+    change(pairs, entries)
     return pairs
 
 

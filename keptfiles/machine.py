@@ -1,9 +1,8 @@
-"""The machine: the State that a row of commands leads to, and the answer to each of them.
-
-A tree is a tuple of pairs (path, rows), paths ascending; rows is None for a folder.
-"""
+"""The machine: the State that a row of commands leads to, and the answer to each of them."""
 
 from keptfiles.errors import BadName, NoName, is_from, is_name
+from keptfiles.trees import (ROOT_ALONE, file_in, length_in, names_in, row_at, with_length, with_moved, with_path,
+                             with_row, without_path)
 
 
 class State:
@@ -21,7 +20,7 @@ class State:
 
 def start_state(settings):
     """The State ahead of all commands: the root alone, and each shelf whole in its first life."""
-    return State(settings.need, (((), None),), (), (), ((0, True),) * settings.shelves, 0, ())
+    return State(settings.need, ROOT_ALONE, (), (), ((0, True),) * settings.shelves, 0, ())
 
 
 def with_tree(state, tree):
@@ -72,6 +71,11 @@ def is_pair(value):
     return isinstance(value, tuple) and len(value) == 2 and is_from(value[1], 0)
 
 
+def is_write(value):
+    """Whether a value is a name of a write."""
+    return is_pair(value) and is_name(value[0])
+
+
 def is_mark(state, value):
     """Whether a value is a mark of one of the shelves of a State."""
     return is_pair(value) and place_of(state, value[0]) is not None
@@ -84,108 +88,39 @@ def is_thing(state, kind, value):
     if kind == "number":
         return is_from(value, 0)
     if kind == "write":
-        return is_pair(value) and is_name(value[0])
+        return is_write(value)
     if kind == "shelf":
         return place_of(state, value) is not None
     return isinstance(value, tuple) and all([is_mark(state, mark) for mark in value])
 
 
-def is_in(tree, path):
-    """Whether a PATH is in a tree."""
-    return path in [known for known, _ in tree]
-
-
-def is_below(path, above):
-    """Whether a PATH begins with another one and is longer."""
-    return len(path) > len(above) and path[:len(above)] == above
-
-
-def file_in(tree, path):
-    """The rows of a file, None if the PATH is no file of the tree."""
-    for known, rows in tree:
-        if known == path:
-            return rows
-    return None
-
-
-def sorted_tree(pairs):
-    """A tree of these pairs (path, rows)."""
-    return tuple(sorted(pairs, key=lambda pair: pair[0]))
-
-
-def with_rows(state, path, rows):
-    """The State in which a file has other rows."""
-    return with_tree(state, tuple([(known, rows if known == path else old) for known, old in state.tree]))
-
-
-def with_path(state, path, rows):
-    """The State in which a PATH is put into the tree, if it may be, and the answer."""
-    if is_in(state.tree, path):
-        return state, "there"
-    if (path[:-1], None) not in state.tree:
-        return state, "folder"
-    return with_tree(state, sorted_tree(state.tree + ((path, rows),))), "done"
-
-
 def do_make(state, body):
     """A folder is made."""
-    return with_path(state, body[0], None)
+    tree, answer = with_path(state.tree, body[0], None)
+    return with_tree(state, tree), answer
 
 
 def do_file(state, body):
     """A file without rows is made."""
-    return with_path(state, body[0], ())
+    tree, answer = with_path(state.tree, body[0], ())
+    return with_tree(state, tree), answer
 
 
 def do_list(state, body):
     """Tells what is in a folder."""
-    path = body[0]
-    if not is_in(state.tree, path):
-        return state, "none"
-    if file_in(state.tree, path) is not None:
-        return state, "file"
-    inside = [(known, rows) for known, rows in state.tree if known != () and known[:-1] == path]
-    return state, ("names", tuple([(known[-1], "folder" if rows is None else "file") for known, rows in inside]))
-
-
-def move_trouble(tree, path, to):
-    """Why a PATH cannot be moved, None if it can."""
-    if not is_in(tree, path):
-        return "none"
-    if path == ():
-        return "root"
-    if is_below(to, path):
-        return "within"
-    if is_in(tree, to):
-        return "there"
-    if (to[:-1], None) not in tree:
-        return "folder"
-    return None
+    return state, names_in(state.tree, body[0])
 
 
 def do_move(state, body):
     """A PATH is moved, and all that is below it."""
-    path, to = body
-    trouble = move_trouble(state.tree, path, to)
-    if trouble is not None:
-        return state, trouble
-    pairs = []
-    for known, rows in state.tree:
-        is_moved = known == path or is_below(known, path)
-        pairs.append((to + known[len(path):] if is_moved else known, rows))
-    return with_tree(state, sorted_tree(pairs)), "done"
+    tree, answer = with_moved(state.tree, body[0], body[1])
+    return with_tree(state, tree), answer
 
 
 def do_drop(state, body):
     """A PATH is taken out."""
-    path = body[0]
-    if not is_in(state.tree, path):
-        return state, "none"
-    if path == ():
-        return state, "root"
-    if any([is_below(known, path) for known, _ in state.tree]):
-        return state, "full"
-    return with_tree(state, tuple([pair for pair in state.tree if pair[0] != path])), "done"
+    tree, answer = without_path(state.tree, body[0])
+    return with_tree(state, tree), answer
 
 
 def marks_that_count(state, marks):
@@ -197,50 +132,35 @@ def marks_that_count(state, marks):
 def do_commit(state, body):
     """A write comes to stand in a file."""
     path, number, write, count, marks = body
-    rows = file_in(state.tree, path)
-    if rows is None:
-        return state, "none"
-    if number > len(rows):
-        return state, "gap"
+    tree, answer = with_row(state.tree, path, number, (write, count))
+    if answer != "done":
+        return state, answer
     if write in state.barred:
         return state, "barred"
     if write in state.used:
         return state, "used"
     if marks_that_count(state, marks) < state.need:
         return state, "few"
-    after = with_rows(state, path, rows[:number] + ((write, count),) + rows[number + 1:])
-    return with_used(after, write), "done"
+    return with_used(with_tree(state, tree), write), "done"
 
 
 def do_look(state, body):
     """Tells a row of a file."""
-    path, number = body
-    rows = file_in(state.tree, path)
-    if rows is None:
-        return state, "none"
-    if number >= len(rows):
-        return state, "gap"
-    write, count = rows[number]
-    return state, ("write", write, count)
+    row, answer = row_at(state.tree, body[0], body[1])
+    if row is None:
+        return state, answer
+    return state, ("write",) + row
 
 
 def do_size(state, body):
     """Tells the length of a file."""
-    rows = file_in(state.tree, body[0])
-    if rows is None:
-        return state, "none"
-    return state, ("size", len(rows))
+    return state, length_in(state.tree, body[0])
 
 
 def do_cut(state, body):
     """Only the first rows of a file stay."""
-    path, length = body
-    rows = file_in(state.tree, path)
-    if rows is None:
-        return state, "none"
-    if length > len(rows):
-        return state, "gap"
-    return with_rows(state, path, rows[:length]), "done"
+    tree, answer = with_length(state.tree, body[0], body[1])
+    return with_tree(state, tree), answer
 
 
 def do_bar(state, body):

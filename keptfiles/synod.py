@@ -20,21 +20,30 @@ def slots_in(keys):
     return sorted([key[1] for key in keys if key[0] == "slot"])
 
 
+def fold_in(pairs):
+    """The pair (slot, data) of the fold in a server's map."""
+    return pairs.get(FOLD, NO_FOLD)
+
+
 def fold_of(blocks):
     """The pair (slot, data) of the fold that the blocks of a server's disk tell."""
-    return kept(blocks).get(FOLD, NO_FOLD)
+    return fold_in(kept(blocks))
 
 
-def votes_of(blocks):
-    """A dict from each slot that is not below the fold to its pair (promised, votes)."""
-    pairs = kept(blocks)
-    fold, _ = pairs.get(FOLD, NO_FOLD)
+def votes_in(pairs):
+    """As votes_of, of a server's map."""
+    fold, _ = fold_in(pairs)
     told = {}
     for slot in slots_in(list(pairs)):
         if slot >= fold:
             promised, *votes = pairs[key_of(slot)]
             told[slot] = (promised, tuple(votes))
     return told
+
+
+def votes_of(blocks):
+    """A dict from each slot that is not below the fold to its pair (promised, votes)."""
+    return votes_in(kept(blocks))
 
 
 def chosen_among(votes, servers):
@@ -45,38 +54,48 @@ def chosen_among(votes, servers):
     return [value for ballot, value in votes if is_most(many[ballot], servers)]
 
 
-def chosen(rows):
-    """A dict from each slot in which a value is chosen to this value; rows are the blocks of all servers."""
+def chosen_in(maps):
+    """As chosen, of the maps of all servers."""
     votes = {}
-    for blocks in rows:
-        for slot, (_, cast) in votes_of(blocks).items():
+    for pairs in maps:
+        for slot, (_, cast) in votes_in(pairs).items():
             votes.setdefault(slot, []).extend(cast)
     found = {}
     for slot in sorted(votes):
-        values = chosen_among(votes[slot], len(rows))
+        values = chosen_among(votes[slot], len(maps))
         if len(values) > 0:
             found[slot] = values[0]
     return found
 
 
-def greatest_fold(rows):
+def chosen(rows):
+    """A dict from each slot in which a value is chosen to this value; rows are the blocks of all servers."""
+    return chosen_in([kept(blocks) for blocks in rows])
+
+
+def greatest_fold(maps):
     """The fold with the greatest slot of all servers."""
     greatest = NO_FOLD
-    for blocks in rows:
-        fold = fold_of(blocks)
+    for pairs in maps:
+        fold = fold_in(pairs)
         if fold[0] > greatest[0]:
             greatest = fold
     return greatest
 
 
-def book(rows):
-    """The triple of the greatest fold's slot and data, and of the values chosen from there on, without a gap."""
-    start, data = greatest_fold(rows)
-    found = chosen(rows)
+def book_in(maps):
+    """As book, of the maps of all servers."""
+    start, data = greatest_fold(maps)
+    found = chosen_in(maps)
     values = []
     while start + len(values) in found:
         values.append(found[start + len(values)])
     return start, data, tuple(values)
+
+
+def book(rows):
+    """The triple of the greatest fold's slot and data, and of the values chosen from there on, without a gap."""
+    return book_in([kept(blocks) for blocks in rows])
 
 
 class BookServer:

@@ -7,9 +7,15 @@ import unittest
 from keptfiles.agree import Agree, Walker
 from keptfiles.disk import Disk
 from keptfiles.errors import Settings
+from keptfiles.hands import Hand
+from keptfiles.judge import Trouble
 from keptfiles.keeper import Keeper
 from keptfiles.machine import start_state
+from keptfiles.meaning import meaning
+from keptfiles.shelves import Shelf
+from keptfiles.story import Story
 from keptfiles.synod import BookServer
+from keptfiles.world import World
 
 FUNCTIONS = {
     "errors": {"server_names": ("settings",), "shelf_names": ("settings",)},
@@ -25,6 +31,17 @@ FUNCTIONS = {
     "code": {"piece_of": ("letters", "number", "settings"), "pieces_of": ("letters", "settings"),
              "letters_of": ("pieces", "count", "settings"), "letters_among": ("pieces", "count", "settings"),
              "agree_on": ("pieces", "count", "settings")},
+    "shelves": {"held": ("blocks",), "life_on": ("blocks",)},
+    "hands": {"need_deed": ("deed", "settings")},
+    "mending": {"missing": ("state", "writes"), "dead": ("state", "writes"), "strange": ("state", "writes"),
+                "undone": ("state", "rows")},
+    "world": {"settle": ("world",)},
+    "meaning": {"start_of": ("world",), "book_of": ("world",), "state_of": ("world",), "pieces_on": ("world", "write"),
+                "whole_shelves": ("world",), "meaning": ("world",), "same_now": ("world", "other")},
+    "judge": {"plain_start": (), "plain_step": ("tree", "deed"), "trouble_of": ("history", "paper"),
+              "explained": ("history", "paper"), "paper_of": ("world",), "plain_behind": ("history", "paper")},
+    "story": {"played": ("story",), "told": ("story",)},
+    "desk": {},
 }
 CLASSES = {
     "errors": {
@@ -48,6 +65,24 @@ CLASSES = {
                   "nudge": ()},
         "Walker": {"__init__": ("hand", "settings"), "submit": ("word", "body"), "hear": ("letter",), "nudge": ()}},
     "machine": {"State": {"__init__": ("need", "tree", "used", "barred", "lives", "many", "last")}},
+    "shelves": {"Shelf": {"__init__": ("name", "disk", "width", "life"), "hear": ("letter",)}},
+    "hands": {"Hand": {"__init__": ("name", "settings"), "call": ("deed",), "hear": ("letter",), "nudge": ()}},
+    "world": {
+        "World": {"__init__": ("settings",), "hand": ("name",), "call": ("name", "deed"), "nudge": ("name",),
+                  "give": ("number",), "double": ("number",), "lose": ("number",), "cut": ("number", "steps", "lot"),
+                  "crash": ("name", "lot"), "restart": ("name", "steps", "lot"), "wipe": ("name",),
+                  "spoil": ("name", "write", "place", "number"), "fall": ("name",), "letters": (), "running": ("name",),
+                  "blocks_of": ("name",), "waiting_of": ("name",), "life_of": ("name",), "hands": (), "busy": ("name",),
+                  "known_by": ("name",), "spoiled": (), "history": ()}},
+    "meaning": {"Meaning": {"__init__": ("start", "book", "state", "files")}},
+    "judge": {"Trouble": {"__init__": ("rule", "place", "due")}},
+    "story": {"Story": {"__init__": ("text",)}},
+    "desk": {
+        "Desk": {"__init__": ("text",), "lines": (), "item_names": (), "get_story": ("name",), "get_world": ("name",),
+                 "put": ("text",), "drop": ("name",), "rename": ("name", "new"), "edit": ("name", "number", "text"),
+                 "add": ("name", "text"), "keep": ("promise",), "release": ("promise",), "promises": (),
+                 "holds": ("promise",), "broken": (), "undo": (), "redo": (), "attempt": ("action",),
+                 "trial": ("action",)}},
 }
 
 
@@ -82,7 +117,12 @@ class Interface(unittest.TestCase):
                 (BookServer("b1", disk, 1), ("name", "disk", "keeper")),
                 (Agree("ann", ("b1",), 0, "x"), ("slot", "ballot", "found")),
                 (Walker("ann", settings), ("owner", "start", "rows", "state", "told")),
-                (start_state(settings), ("need", "tree", "used", "barred", "lives", "many", "last")))
+                (start_state(settings), ("need", "tree", "used", "barred", "lives", "many", "last")),
+                (Shelf("s1", Disk(9), 1, 0), ("name", "disk", "keeper", "life")),
+                (Hand("ann", settings), ("name", "settings", "walker", "is_busy", "result")),
+                (World(settings), ("settings",)), (meaning(World(settings)), ("start", "book", "state", "files")),
+                (Trouble(1, 0, None), ("rule", "place", "due")),
+                (Story("store 1 1 1 0 0 2 9 1"), ("text", "settings", "deeds")))
         for thing, names in told:
             for name in names:
                 self.assertIn(name, vars(thing))
