@@ -1,6 +1,6 @@
 """The desk: stories under names, which are edited so that promises about them stay kept."""
 
-from keptfiles.entries import entries_behind, entry_named, file_of, new_entry, renamed_entry
+from keptfiles.entries import changed_entry, entries_behind, entry_named, file_of, renamed_entry
 from keptfiles.errors import (BadName, BadNumber, BadText, NoName, NothingToRedo, NothingToUndo, TakenName, is_name,
                               is_within)
 from keptfiles.promises import asked, broken_among, items_in, need_items, need_kept, renamed_promise
@@ -168,7 +168,7 @@ class Desk:
             if words_of(line)[0] == "world":
                 raise BadText(at, 1)
         lines = lines_of(elder.story.text)
-        entry = new_entry(name, lines[:number - 1] + added + lines[number:], 0)
+        entry = changed_entry(elder, lines[:number - 1] + added + lines[number:])
         self._edit(self._entries_with(elder, entry), self._promises)
 
     def _entries_with(self, elder, entry):

@@ -1,7 +1,7 @@
 """The items of a desk: stories under names, and the files that tell them."""
 
 from keptfiles.errors import BadText
-from keptfiles.story import Story, played
+from keptfiles.story import Story, do_deeds, played
 from keptfiles.words import lines_of, need_text, text_of, values_of, words_of
 
 
@@ -22,6 +22,12 @@ class Entry:
     def forget(self):
         """Keeps the world no longer: it is played again when it is looked at."""
         self._world = None
+
+    def given_world(self):
+        """The world behind the story, to do with it whatever one likes."""
+        world = self.seen_world()
+        self.forget()
+        return world
 
 
 def name_in(words, number, parts):
@@ -65,9 +71,20 @@ def new_entry(name, lines, ahead):
     return Entry(name, story, played(story))
 
 
-def renamed_entry(entry, new):
+def changed_entry(elder, lines):
+    """The item with other lines; all of its deeds can be done."""
+    story = story_of(lines, 0)
+    if not story.text.startswith(elder.story.text):
+        return Entry(elder.name, story, played(story))
+    # The elder lines are all there: only what comes behind them is played.
+    world = elder.given_world()
+    do_deeds(world, story.deeds[len(elder.story.deeds):])
+    return Entry(elder.name, story, world)
+
+
+def renamed_entry(elder, new):
     """The item under another name."""
-    return Entry(new, entry.story, entry.seen_world())
+    return Entry(new, elder.story, elder.given_world())
 
 
 def entry_named(entries, name):
@@ -83,7 +100,7 @@ def entries_behind(entries, text):
     parts = parts_of(text)
     known = [entry.name for entry in entries]
     behind = []
-    for name in known + [name for name in parts if name not in known]:
+    for name in known + [other for other in parts if other not in known]:
         if name in parts:
             number, lines = parts[name]
             behind.append(new_entry(name, lines, number))

@@ -88,11 +88,16 @@ def do_deed(world, deed):
         settle(world)
 
 
+def do_deeds(world, deeds):
+    """Does deeds of a story, one after the other."""
+    for deed in deeds:
+        do_deed(world, deed)
+
+
 def played(story):
     """A world behind all deeds of a story."""
     world = World(story.settings)
-    for deed in story.deeds:
-        do_deed(world, deed)
+    do_deeds(world, story.deeds)
     return world
 
 

@@ -360,6 +360,59 @@ class Promises(DeskCase):
         self.check_wrong(desk, NotKept, {"promise": "a answers 1", "witness": 0}, desk.put, text)
 
 
+class Worlds(DeskCase):
+    """What promises tell is always told of the lines that the item has now."""
+
+    def check_reads(self, desk, *letters):
+        told = [",".join(map(str, row)) for row in letters]
+        for number, row in enumerate(told):
+            same(self, desk.holds(f"a reads log {number} {row}"), (True, None))
+        same(self, desk.holds(f"a reads log {len(told)} 0"), (False, None))
+
+    def test_behind_errors(self):
+        desk = Desk(PLAIN)
+        desk.keep("a whole s1")
+        cut = "call ann cut log 0\nsettle\n"
+        for kind, lines in ((NoName, cut + "nudge x"), (BadText, cut + "nudge"), (NotKept, cut + "wipe s1"),
+                            (TooMany, cut + "wipe s1\nwipe s2")):
+            for call in (desk.add, lambda name, text: desk.trial(lambda same_desk: same_desk.add(name, text)),
+                         lambda name, text: desk.attempt(lambda same_desk: same_desk.add(name, text))):
+                if kind is NotKept and call != desk.add:
+                    continue
+                self.assertRaises(kind, call, "a", lines)
+                self.check_reads(desk, (1, 2, 3))
+        desk.trial(lambda same_desk: (same_desk.add("a", cut), self.check_reads(same_desk)))
+        self.check_reads(desk, (1, 2, 3))
+
+    def test_behind_undo_and_redo(self):
+        desk = Desk(PLAIN)
+        rows = [(1, 2, 3)]
+        for number in range(1, 5):
+            desk.add("a", f"call ann write log {number} {number}\nsettle")
+            rows.append((number,))
+            self.check_reads(desk, *rows)
+        for many in (4, 3, 2):
+            desk.undo()
+            self.check_reads(desk, *rows[:many])
+        for many in (3, 4):
+            desk.redo()
+            self.check_reads(desk, *rows[:many])
+        desk.rename("a", "d")
+        desk.undo()
+        self.check_reads(desk, *rows[:4])
+        desk.add("a", "")
+        desk.edit("a", 9, "")
+        desk.undo()
+        desk.edit("a", 5, "call ann write log 0 9")
+        self.check_reads(desk, (9,), *rows[1:4])
+        desk.undo()
+        desk.put("world a\n" + LOG + "call ann write log 0 8\nsettle\n")
+        self.check_reads(desk, (8,))
+        desk.undo()
+        desk.add("a", "call ann cut log 1\nsettle")
+        self.check_reads(desk, (1, 2, 3))
+
+
 class Attempts(DeskCase):
     def test_what_action_gets_and_returns(self):
         desk = Desk(PLAIN)
